@@ -89,6 +89,17 @@ func boundsOfPoints(a, b pointSet) impl.Rect {
 	return rect(left-3, top-3, right-left+1, bottom-top+1)
 }
 
+// checkBothOrders checks a function whose result does not depend on the order of its arguments.
+func checkBothOrders(t *testing.T, name string, f func(a, b impl.Rect) impl.Rect, a, b, want impl.Rect) {
+	t.Helper()
+	if got := f(a, b); got != want {
+		t.Errorf("%s(%v, %v) = %v; want %v", name, a, b, got, want)
+	}
+	if got := f(b, a); got != want {
+		t.Errorf("%s(%v, %v) = %v; want %v", name, b, a, got, want)
+	}
+}
+
 func TestRectLimits(t *testing.T) {
 	const most = impl.MaxCoordinate
 	if most != 1000 {
@@ -202,12 +213,7 @@ func TestIntersect(t *testing.T) {
 		{rect(most, most, most, most), rect(most, most, most, most), rect(most, most, most, most)},
 	}
 	for _, c := range cases {
-		if got := impl.Intersect(c.a, c.b); got != c.want {
-			t.Errorf("Intersect(%v, %v) = %v; want %v", c.a, c.b, got, c.want)
-		}
-		if got := impl.Intersect(c.b, c.a); got != c.want {
-			t.Errorf("Intersect(%v, %v) = %v; want %v", c.b, c.a, got, c.want)
-		}
+		checkBothOrders(t, "Intersect", impl.Intersect, c.a, c.b, c.want)
 	}
 }
 
@@ -221,12 +227,7 @@ func TestBounds(t *testing.T) {
 		{rect(most, most, most, most), rect(most, most, 1, 1), rect(most, most, most, most)},
 	}
 	for _, c := range cases {
-		if got := impl.Bounds(c.a, c.b); got != c.want {
-			t.Errorf("Bounds(%v, %v) = %v; want %v", c.a, c.b, got, c.want)
-		}
-		if got := impl.Bounds(c.b, c.a); got != c.want {
-			t.Errorf("Bounds(%v, %v) = %v; want %v", c.b, c.a, got, c.want)
-		}
+		checkBothOrders(t, "Bounds", impl.Bounds, c.a, c.b, c.want)
 	}
 }
 
@@ -236,17 +237,10 @@ func TestBoundsOfEmptyRects(t *testing.T) {
 	empty := []impl.Rect{{}, rect(3, 4, 0, 0), rect(3, 4, 0, 9), rect(-6, -7, 9, 0), rect(most, most, most, 0), rect(-most, -most, 0, most)}
 	for _, e := range empty {
 		for _, r := range []impl.Rect{rect(0, 0, 1, 1), rect(-2, 5, 3, 4), rect(most, most, most, most), rect(-most, -most, most, 1)} {
-			if got := impl.Bounds(e, r); got != r {
-				t.Errorf("Bounds(%v, %v) = %v; want %v", e, r, got, r)
-			}
-			if got := impl.Bounds(r, e); got != r {
-				t.Errorf("Bounds(%v, %v) = %v; want %v", r, e, got, r)
-			}
+			checkBothOrders(t, "Bounds", impl.Bounds, e, r, r)
 		}
 		for _, other := range empty {
-			if got := impl.Bounds(e, other); got != (impl.Rect{}) {
-				t.Errorf("Bounds(%v, %v) = %v; want none", e, other, got)
-			}
+			checkBothOrders(t, "Bounds", impl.Bounds, e, other, impl.Rect{})
 		}
 	}
 }
@@ -266,12 +260,7 @@ func TestBoundsThatAreTooLargeAreZero(t *testing.T) {
 		{rect(-most, -most, most, most), rect(most, most, most, most), impl.Rect{}},
 	}
 	for _, c := range cases {
-		if got := impl.Bounds(c.a, c.b); got != c.want {
-			t.Errorf("Bounds(%v, %v) = %v; want %v", c.a, c.b, got, c.want)
-		}
-		if got := impl.Bounds(c.b, c.a); got != c.want {
-			t.Errorf("Bounds(%v, %v) = %v; want %v", c.b, c.a, got, c.want)
-		}
+		checkBothOrders(t, "Bounds", impl.Bounds, c.a, c.b, c.want)
 	}
 }
 
@@ -280,17 +269,10 @@ func TestPairsWithAnInvalidRect(t *testing.T) {
 	others := append(invalidRects(), impl.Rect{}, rect(0, 0, 1, 1), rect(-3, -4, 9, 9), rect(most, most, most, most), rect(2, 2, 0, 2))
 	for _, r := range invalidRects() {
 		for _, other := range others {
-			for _, pair := range [][2]impl.Rect{{r, other}, {other, r}} {
-				a, b := pair[0], pair[1]
-				if got := impl.Intersect(a, b); got != (impl.Rect{}) {
-					t.Errorf("Intersect(%v, %v) = %v; want none", a, b, got)
-				}
-				if got := impl.Bounds(a, b); got != (impl.Rect{}) {
-					t.Errorf("Bounds(%v, %v) = %v; want none", a, b, got)
-				}
-				if impl.Covers(a, b) {
-					t.Errorf("Covers(%v, %v) is true", a, b)
-				}
+			checkBothOrders(t, "Intersect", impl.Intersect, r, other, impl.Rect{})
+			checkBothOrders(t, "Bounds", impl.Bounds, r, other, impl.Rect{})
+			if impl.Covers(r, other) || impl.Covers(other, r) {
+				t.Errorf("one of %v and %v covers the other", r, other)
 			}
 		}
 	}

@@ -15,19 +15,6 @@ const screenSide = 16
 // screenRows draws a set of points of the screen, a row of '#' and '.' for each y.
 type screenRows [screenSide]string
 
-// drawn places a drawing on a screen, with the upper left corner of the drawing at (x, y).
-func drawn(x, y int, drawing ...string) screenRows {
-	var rows screenRows
-	for i := range rows {
-		rows[i] = strings.Repeat(".", screenSide)
-		if y <= i && i < y+len(drawing) {
-			part := drawing[i-y]
-			rows[i] = rows[i][:x] + part + rows[i][x+len(part):]
-		}
-	}
-	return rows
-}
-
 // drawnPoints draws the points for which inside is true.
 func drawnPoints(inside func(x, y int) bool) screenRows {
 	var rows screenRows
